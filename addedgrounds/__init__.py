@@ -1,0 +1,1 @@
+"""Addedgrounds: scripts that are judged in all wider contexts."""
