@@ -1,4 +1,4 @@
-"""Finds breaks of those rules of LANGUAGE.md that a look at the code alone can tell."""
+"""Finds breaks of some rules of LANGUAGE.md; the others have to be checked by reading."""
 
 import ast
 import builtins
