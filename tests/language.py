@@ -17,6 +17,7 @@ DOUBLE = set("""__init__ __eq__ __repr__ __str__ __len__ __enter__ __exit__ __ca
     __ge__ __ne__ __add__ __sub__ __mul__ __and__ __or__ __xor__ __neg__ __pos__ __invert__ __abs__ __bool__
     __contains__ __getitem__ __setitem__""".split())
 PURE = ("__eq__", "__repr__", "__str__", "__len__", "__add__", "__contains__", "__bool__")
+ON_THE_SPOT = ("zip", "enumerate", "reversed", "range", "items", "keys", "values")
 BARRED_NAMES = set("register mro elements open input law version_info with_traceback add_note".split())
 BARRED_WORDS = set("""type typing typing_extensions enum Enum IntEnum StrEnum Flag IntFlag Generic Protocol ABC
     ABCMeta namedtuple NamedTuple TypedDict TYPE_CHECKING abstractmethod""".split())
@@ -142,10 +143,55 @@ def module_breaks(tree):
     yield from [f"L15: {name}" for name in bound if name in ALL_BUILTINS]
 
 
+def called(node):
+    """The name of what a node calls, or an empty string."""
+    if not isinstance(node, ast.Call):
+        return ""
+    return getattr(node.func, "id", getattr(node.func, "attr", ""))
+
+
+def iterated_breaks(tree):
+    """Breaks of L23: what has to be iterated on the spot is stored, and generators in wrong places."""
+    for node in ast.walk(tree):
+        if isinstance(node, (ast.Assign, ast.Return)) and called(node.value) in ON_THE_SPOT:
+            yield f"L23: line {node.lineno}"
+        if isinstance(node, (ast.Yield, ast.YieldFrom)):
+            statements = [item.value for item in ast.walk(tree) if isinstance(item, ast.Expr)]
+            if node not in statements:
+                yield f"L23: line {node.lineno}"
+    for function in functions_in(tree):
+        lazy = any(isinstance(node, (ast.Yield, ast.YieldFrom)) for node in ast.walk(function))
+        if lazy and (function.decorator_list or function.name in PLAIN_METHODS or function.name.startswith("__")):
+            yield f"L23: {function.name}"
+
+
+def table_breaks(tree, tables):
+    """Breaks of L15: a list or dict at module level that is passed on, or changed."""
+    above = {kid: node for node in ast.walk(tree) for kid in ast.iter_child_nodes(node)}
+    for node in ast.walk(tree):
+        if not isinstance(node, ast.Name) or node.id not in tables or not isinstance(node.ctx, ast.Load):
+            continue
+        user = above[node]
+        plain = isinstance(user, ast.Compare) and node in user.comparators
+        plain = plain or isinstance(user, ast.Subscript) and node == user.value and isinstance(user.ctx, ast.Load)
+        if not plain and not (isinstance(user, ast.Attribute) and user.attr == "get"):
+            yield f"L15: line {node.lineno}: {node.id}"
+
+
+def tables_in(trees):
+    """The names of the lists and dicts at module level."""
+    return {target.id for tree in trees for node in tree.body if isinstance(node, ast.Assign)
+            for target in node.targets if isinstance(node.value, (ast.List, ast.Dict))}
+
+
+def is_property(function):
+    return any(getattr(mark, "id", "") == "property" for mark in function.decorator_list)
+
+
 def pure_breaks(tree):
     """Breaks of L5 and L28: an operator, or a method like one, that changes something."""
     for function in functions_in(tree):
-        if function.name not in PURE:
+        if function.name not in PURE and not is_property(function):
             continue
         for node in ast.walk(function):
             stored = isinstance(getattr(node, "ctx", None), (ast.Store, ast.Del))
@@ -183,17 +229,30 @@ def import_breaks(trees):
         done = {name for name in needs if not needs[name]}
         needs = {name: needs[name] - done for name in needs if name not in done}
     found += [f"L16: a circle with {name}" for name in needs]
+    found += property_breaks(trees)
     both = methods_in(trees.values()) & attributes_in(trees.values())
     return found + [f"L18: {name} is a method and an attribute" for name in sorted(both)]
+
+
+def property_breaks(trees):
+    """Breaks of L5: a name of properties, or of static methods, that plain methods have, too."""
+    kinds = {}
+    for tree in trees.values():
+        for function in [node for found in classes_in(tree) for node in functions_in(found)]:
+            marks = [getattr(mark, "id", getattr(mark, "attr", "")) for mark in function.decorator_list]
+            kinds.setdefault(function.name, set()).add("property" if "setter" in marks else "".join(marks))
+    return [f"L5: {name} is of several kinds" for name in kinds if len(kinds[name]) > 1]
 
 
 def breaks_in(texts):
     """The breaks in the files of a package: a dict from modules' names to texts."""
     trees = {name: ast.parse(text) for name, text in texts.items()}
     own = methods_in(trees.values())
+    tables = tables_in(trees.values())
     found = import_breaks(trees)
     for name, tree in trees.items():
         here = text_breaks(texts[name]) + list(node_breaks(tree, own)) + list(function_breaks(tree))
-        here += list(module_breaks(tree)) + list(pure_breaks(tree))
+        here += list(module_breaks(tree)) + list(pure_breaks(tree)) + list(iterated_breaks(tree))
+        here += list(table_breaks(tree, tables))
         found += [f"{name}: {text}" for text in here]
     return found

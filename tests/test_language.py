@@ -5,20 +5,41 @@ import re
 import unittest
 from pathlib import Path
 
-from addedgrounds import contexts, errors, formulas
+from addedgrounds import contexts, errors, formulas, scripts, sessions, terms
 from tests.language import breaks_in
 
 FOLDER = Path(__file__).resolve().parent.parent / "addedgrounds"
 FUNCTIONS = {
-    "is_name": "(value)", "is_formula": "(value)", "is_shape": "(value)", "formula_text": "(formula)",
-    "read_formula": "(text)", "read_shape": "(text)", "atoms_of": "(formula)", "chained": "(formulas, goal)",
-    "holes_of": "(shape, formula)", "unified": "(one, other)", "filled": "(formula, table)",
+    formulas: {
+        "is_name": "(value)", "is_formula": "(value)", "is_shape": "(value)", "formula_text": "(formula)",
+        "read_formula": "(text)", "read_shape": "(text)", "atoms_of": "(formula)", "chained": "(formulas, goal)",
+        "holes_of": "(shape, formula)", "unified": "(one, other)", "filled": "(formula, table)"},
+    terms: {"is_derivation": "(term, context, goal, *, facts=None)", "statement": "(context, goal)"},
+    sessions: {"run": "(script, context, goal, *, facts=None)"},
 }
 METHODS = {
-    "__init__": "(self, rows=())", "of": "(*rows)", "read": "(text)", "rows": "(self)", "names": "(self)",
-    "words": "(self)", "text": "(self)", "with_row": "(self, at, name, formula)", "without": "(self, *places)",
-    "places_of": "(self, other)", "is_wider": "(self, other)", "__add__": "(self, other)",
-    "__contains__": "(self, x)", "__len__": "(self)", "__eq__": "(self, other)", "__repr__": "(self)",
+    contexts.Context: {
+        "__init__": "(self, rows=())", "of": "(*rows)", "read": "(text)", "rows": "(self)", "names": "(self)",
+        "words": "(self)", "text": "(self)", "with_row": "(self, at, name, formula)", "without": "(self, *places)",
+        "places_of": "(self, other)", "is_wider": "(self, other)", "__add__": "(self, other)",
+        "__contains__": "(self, x)", "__len__": "(self)", "__eq__": "(self, other)", "__repr__": "(self)"},
+    scripts.Script: {
+        "__init__": "(self, commands=())", "read": "(text)", "commands": "(self)", "text": "(self)", "walk": "(self)",
+        "words": "(self)", "recalled": "(self)", "without": "(self, at)", "__add__": "(self, other)",
+        "__len__": "(self)", "__eq__": "(self, other)", "__repr__": "(self)"},
+    sessions.Outcome: {
+        "told": "(self)", "__eq__": "(self, other)", "__bool__": "(self)", "__repr__": "(self)"},
+    sessions.Shown: {"told": "(self)"},
+    sessions.Open: {"told": "(self)", "goals": "(self)"},
+    sessions.Stopped: {"told": "(self)"},
+    sessions.Session: {
+        "__init__": "(self, context, goal, *, facts=None)", "do": "(self, *commands)", "tell": "(self, line)",
+        "undo": "(self)", "redo": "(self)", "history": "(self)", "commands": "(self)", "goals": "(self)",
+        "derivation": "(self)", "twin": "(self)", "__len__": "(self)", "__repr__": "(self)"},
+}
+PROPERTIES = {
+    sessions.Shown: ("term",), sessions.Stopped: ("place", "cause"),
+    sessions.Session: ("context", "goal", "many", "busy"),
 }
 WRONG = [
     "import os\n", "from os import path\n", "x = [k for k in (1, 2)]\nx = 1.5\n", "def f(a):\n    return a / 2\n",
@@ -27,6 +48,9 @@ WRONG = [
     "def f():\n    return \"100%\"\n", "def f(a):\n    try:\n        return a\n    except TypeError:\n        return 1\n",
     "class A:\n    def b(self):\n        self.b = 1\n", "class A:\n    def __add__(self, other):\n        self.c = 1\n",
     "# the type of it\n", "def f():\n" + "    f()\n" * 40, "x = 1\n" + "\n" * 400, "# " + "x" * 120 + "\n", "# \u00e9\n",
+    "def f(a):\n    b = zip(a, a)\n    return list(b)\n", "def f(a):\n    b = yield a\n    return\n",
+    "class A:\n    @property\n    def b(self):\n        self.c = 1\n        return 1\n", "x = {1: 2}\n\n\ndef f():\n    return x\n",
+    "class A:\n    @property\n    def b(self):\n        return 1\n\n\nclass B:\n    def b(self):\n        return 1\n",
     "print(1)\n", "class A:\n    pass\n\n\ndef f(A):\n    return A\n",
 ]
 
@@ -52,16 +76,31 @@ class LanguageTest(unittest.TestCase):
 
 class InterfaceTest(unittest.TestCase):
     def test_functions(self):
-        for name, parameters in FUNCTIONS.items():
-            function = getattr(formulas, name)
-            self.assertEqual(str(inspect.signature(function)), parameters)
-            self.assertEqual(function.__module__, "addedgrounds.formulas")
+        for module, functions in FUNCTIONS.items():
+            for name, parameters in functions.items():
+                function = getattr(module, name)
+                self.assertEqual(str(inspect.signature(function)), parameters)
+                self.assertEqual(function.__module__, module.__name__)
 
     def test_methods(self):
-        for name, parameters in METHODS.items():
-            self.assertIn(name, contexts.Context.__dict__)
-            self.assertEqual(str(inspect.signature(getattr(contexts.Context, name))), parameters)
-        self.assertEqual(contexts.Context.__module__, "addedgrounds.contexts")
+        for found, methods in METHODS.items():
+            for name, parameters in methods.items():
+                self.assertIn(name, found.__dict__)
+                self.assertEqual(str(inspect.signature(getattr(found, name))), parameters)
+
+    def test_properties(self):
+        for found, names in PROPERTIES.items():
+            for name in names:
+                self.assertIsInstance(found.__dict__[name], property)
+
+    def test_classes(self):
+        for module, names in ((contexts, ("Context",)), (scripts, ("Script",)), (
+                sessions, ("Outcome", "Shown", "Open", "Stopped", "Session"))):
+            for name in names:
+                self.assertEqual(getattr(module, name).__module__, module.__name__)
+        for kind in (sessions.Shown, sessions.Open, sessions.Stopped):
+            self.assertTrue(issubclass(kind, sessions.Outcome))
+        self.assertEqual([contexts.Context.MOST, scripts.Script.MOST], [40, 16])
 
     def test_errors(self):
         for name, error in vars(errors).items():
