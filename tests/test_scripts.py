@@ -2,10 +2,12 @@
 
 import inspect
 import unittest
+from random import Random
 
 from addedgrounds.contexts import Context
 from addedgrounds.errors import InvalidCommand, InvalidText, TooMany
 from addedgrounds.scripts import Script
+from tests import model
 from tests.samples import FALSE, OTHER_VALUES, P, Q, atom, deep_list, deep_tuple, full, hole, nested, part
 
 FORMULA = ("then", P, ("and", Q, FALSE))
@@ -286,6 +288,70 @@ class TextsTest(unittest.TestCase):
         self.check("split\n" * 17 + "splits", 17)
         self.check("try\n" + "split\n" * 20 + "nd", 21)
         self.check("try\n" + "split\n" * 19 + "split", 21)
+
+
+def ways_to_close(lines):
+    """Some lists of marks behind lines, one of which closes all blocks if that can be done at all."""
+    found = [[]]
+    for line in lines:
+        if line.split(" ")[0] in ("try", "all", "repeat"):
+            found = [["end"] + marks for marks in found]
+        elif line == "first":
+            found = [["else", "end"] + marks for marks in found]
+        elif line in ("else", "end"):
+            found = [marks[1:] for marks in found]
+    return found
+
+
+class ChangedTextsTest(unittest.TestCase):
+    """Texts with small changes: each line ahead of the one that is told can stand there, and this one cannot."""
+
+    def reads(self, lines):
+        try:
+            script = Script.read("\n".join(lines))
+        except TooMany:
+            return True
+        except InvalidText:
+            return False
+        self.assertEqual(script.text(), "\n".join(lines))
+        self.assertEqual(Script(script.commands()), script)
+        return True
+
+    def check(self, lines):
+        if self.reads(lines):
+            return 0
+        with self.assertRaises(InvalidText) as caught:
+            Script.read("\n".join(lines))
+        at = caught.exception.line
+        before = lines[:at]
+        self.assertTrue(any(self.reads(before + marks) for marks in ways_to_close(before)), lines)
+        if at < len(lines):
+            here = lines[:at + 1]
+            # An empty line by itself would be the text of a script without commands.
+            self.assertFalse(here != [""] and any(self.reads(here + marks) for marks in ways_to_close(here)), lines)
+        else:
+            self.assertEqual(at, len(lines))
+        return 1
+
+    def test_changed_texts(self):
+        wrong = 0
+        for seed in range(1500):
+            random = Random(seed)
+            lines = model.lines(model.random_commands(random, 8))
+            if not lines:
+                continue
+            at = random.randrange(len(lines))
+            kind = random.random()
+            if kind < 0.25:
+                del lines[at]
+            elif kind < 0.5:
+                lines.insert(at, random.choice(["else", "end", "try", "first", "all", "repeat 2", "split", "", "have h p q"]))
+            else:
+                place = random.randrange(len(lines[at]))
+                sign = random.choice(["", " ", "p", "(", ")", "[", "]", "?", "#", "1", "0", ">", ":", "A"])
+                lines[at] = lines[at][:place] + sign + lines[at][place + random.randint(0, 1):]
+            wrong += self.check(lines) if lines else 0
+        self.assertGreater(wrong, 500)
 
 
 class MethodsTest(unittest.TestCase):
