@@ -15,9 +15,7 @@ class Sight:
 
     def fits(self, pair, pattern):
         """Whether a pair of a name and a formula fits a pattern."""
-        if pattern[0] is not None and pattern[0] != pair[0]:
-            return False
-        return holes_of(pattern[1], pair[1]) is not None
+        return fits_known(pair, pattern)
 
     def newest(self, rows, pattern):
         """The place of the newest row that fits a pattern, or None."""
@@ -31,6 +29,13 @@ class Sight:
         if count > len(rows):
             return None
         return count - 1 if word == "oldest" else len(rows) - count
+
+
+def fits_known(pair, pattern):
+    """Whether a pair fits a pattern; unknown parts and names are like atoms and names of their own."""
+    if pattern[0] is not None and pattern[0] != pair[0]:
+        return False
+    return holes_of(pattern[1], pair[1]) is not None
 
 
 def pattern_of(reference, target):
