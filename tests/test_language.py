@@ -5,7 +5,8 @@ import re
 import unittest
 from pathlib import Path
 
-from addedgrounds import contexts, errors, formulas, scripts, sessions, terms
+from addedgrounds import (
+    cases, contexts, desk, errors, formulas, needs, pages, parting, scripts, sessions, shelf, steady, terms)
 from tests.language import breaks_in
 
 FOLDER = Path(__file__).resolve().parent.parent / "addedgrounds"
@@ -16,6 +17,15 @@ FUNCTIONS = {
         "holes_of": "(shape, formula)", "unified": "(one, other)", "filled": "(formula, table)"},
     terms: {"is_derivation": "(term, context, goal, *, facts=None)", "statement": "(context, goal)"},
     sessions: {"run": "(script, context, goal, *, facts=None)"},
+    cases: {
+        "first_case": "(context)", "asked": "(script, case, goal, facts)", "refined": "(case, question)",
+        "added_in": "(case)", "fits": "(case, context, places)"},
+    steady: {"decide": "(claim, *, limit=4000)"},
+    parting: {"same_end": "(pair, context)", "compare": "(pair, *, limit=4000)"},
+    needs: {
+        "least_grounds": "(claim, *, limit=4000)", "spare_commands": "(claim, *, limit=4000)",
+        "steady_orders": "(claim, *, limit=4000)"},
+    pages: {"write_page": "(shelf)", "read_page": "(text)"},
 }
 METHODS = {
     contexts.Context: {
@@ -36,10 +46,35 @@ METHODS = {
         "__init__": "(self, context, goal, *, facts=None)", "do": "(self, *commands)", "tell": "(self, line)",
         "undo": "(self)", "redo": "(self)", "history": "(self)", "commands": "(self)", "goals": "(self)",
         "derivation": "(self)", "twin": "(self)", "__len__": "(self)", "__repr__": "(self)"},
+    steady.Claim: {
+        "__init__": "(self, script, context, goal, *, facts=None)", "facts": "(self)", "run_on": "(self, context)",
+        "shown_everywhere": "(self, *, limit=4000)", "__eq__": "(self, other)", "__repr__": "(self)"},
+    steady.Verdict: {"told": "(self)", "holds": "(self)", "__bool__": "(self)", "__repr__": "(self)"},
+    steady.Steady: {"__init__": "(self, claim, nodes)", "nodes": "(self)", "told": "(self)", "holds": "(self)"},
+    steady.Breach: {
+        "__init__": "(self, claim, wider, places)", "places": "(self)", "outcome": "(self)", "told": "(self)",
+        "holds": "(self)"},
+    parting.Pair: {
+        "__init__": "(self, one, other, context, goal, *, facts=None)", "__eq__": "(self, other)", "__repr__": "(self)"},
+    parting.Alike: {"__init__": "(self, claim, nodes)", "nodes": "(self)", "told": "(self)", "holds": "(self)"},
+    parting.Parted: {
+        "__init__": "(self, claim, wider, places)", "places": "(self)", "told": "(self)", "holds": "(self)"},
+    shelf.Shelf: {
+        "__init__": "(self, *, limit=12)", "set_limit": "(self, value)", "apply": "(self, *deeds)", "undo": "(self)",
+        "redo": "(self)", "history": "(self)", "names": "(self)", "claim_of": "(self, name)",
+        "statement": "(self, name)", "users": "(self, name)", "rests": "(self, name)", "verdict": "(self, name)",
+        "is_sound": "(self, name)", "kept": "(self)", "twin": "(self)", "__contains__": "(self, x)",
+        "__len__": "(self)", "__eq__": "(self, other)", "__repr__": "(self)"},
+    desk.Desk: {
+        "__init__": "(self, shelf)", "say": "(self, line)", "__call__": "(self, line)", "log": "(self)",
+        "__len__": "(self)", "__repr__": "(self)"},
 }
 PROPERTIES = {
     sessions.Shown: ("term",), sessions.Stopped: ("place", "cause"),
     sessions.Session: ("context", "goal", "many", "busy"),
+    steady.Claim: ("script", "context", "goal"), steady.Verdict: ("claim",), steady.Breach: ("wider", "added"),
+    parting.Pair: ("context",), parting.Alike: ("claim",), parting.Parted: ("claim", "wider", "added"),
+    shelf.Shelf: ("limit", "busy", "computed"), desk.Desk: ("shelf",),
 }
 WRONG = [
     "import os\n", "from os import path\n", "x = [k for k in (1, 2)]\nx = 1.5\n", "def f(a):\n    return a / 2\n",
@@ -94,13 +129,17 @@ class InterfaceTest(unittest.TestCase):
                 self.assertIsInstance(found.__dict__[name], property)
 
     def test_classes(self):
-        for module, names in ((contexts, ("Context",)), (scripts, ("Script",)), (
-                sessions, ("Outcome", "Shown", "Open", "Stopped", "Session"))):
+        for module, names in (
+                (contexts, ("Context",)), (scripts, ("Script",)), (shelf, ("Shelf",)), (desk, ("Desk",)),
+                (sessions, ("Outcome", "Shown", "Open", "Stopped", "Session")),
+                (steady, ("Claim", "Verdict", "Steady", "Breach")), (parting, ("Pair", "Alike", "Parted"))):
             for name in names:
                 self.assertEqual(getattr(module, name).__module__, module.__name__)
         for kind in (sessions.Shown, sessions.Open, sessions.Stopped):
             self.assertTrue(issubclass(kind, sessions.Outcome))
-        self.assertEqual([contexts.Context.MOST, scripts.Script.MOST], [40, 16])
+        for kind in (steady.Steady, steady.Breach, parting.Alike, parting.Parted):
+            self.assertTrue(issubclass(kind, steady.Verdict))
+        self.assertEqual([contexts.Context.MOST, scripts.Script.MOST, shelf.Shelf.MOST], [40, 16, 20])
 
     def test_errors(self):
         for name, error in vars(errors).items():
