@@ -107,6 +107,18 @@ class EntriesTest(ShelfTest):
         self.assertEqual(shelf.claim_of("c").facts(), {"b": P})
         self.assertEqual(shelf.statement("a"), ("then", P, P))
 
+    def test_lists_are_new(self):
+        shelf = self.filled()
+        shelf.verdict("a")
+        for call in (shelf.names, shelf.kept, lambda: shelf.users("a"), lambda: shelf.rests("d"),
+                     lambda: shelf.claim_of("d").facts()):
+            before = repr(call())
+            call().clear()
+            self.assertEqual(repr(call()), before)
+        context, script = Context.read("h: p"), recalls("a")
+        shelf.apply(fact("e", script, context))
+        self.assertEqual((context, script), (Context.read("h: p"), recalls("a")))
+
     def test_scripts(self):
         shelf = self.filled()
         shelf.apply(("script", "c", recalls("a")))

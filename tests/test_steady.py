@@ -9,8 +9,8 @@ from addedgrounds.errors import InvalidFormula, InvalidNumber, TooLarge, TooMany
 from addedgrounds.formulas import read_formula
 from addedgrounds.scripts import Script
 from addedgrounds.sessions import Shown, run
-from addedgrounds.steady import Breach, Claim, Steady, Verdict, decide
-from addedgrounds.trees import new_words
+from addedgrounds.steady import Breach, Claim, Steady, Verdict, decide, words_of_claim
+from addedgrounds.trees import example_of, new_words
 from tests import model, plain
 from tests.claims import FACTS, LIMITS, all_wider, claim, made_wider, random_parts, sized
 from tests.samples import OTHER_VALUES, P, Q, R, atom, deep_list, deep_tuple, hole, nested, part
@@ -238,7 +238,21 @@ class DecideTest(unittest.TestCase):
                 self.assertTrue(shown or verdict.KIND == "breach")
             if verdict.KIND == "breach":
                 self.check_breach(verdict, commands, goal)
+            else:
+                self.check_ends(random, verdict, commands, goal)
         self.assertGreater(min(found.values()), 10)
+
+    def check_ends(self, random, verdict, commands, goal):
+        """Contexts that come from each end of the tree, and wider ones, in which the goal is shown."""
+        words = words_of_claim(verdict.claim.context, goal, FACTS) + verdict.claim.script.words()
+        for node in verdict.nodes():
+            if node[0] == "end":
+                context, places = example_of(node[1], words, None)
+                self.assertTrue(context.is_wider(verdict.claim.context))
+                for most in (0, 3):
+                    some, others = made_wider(random, context.rows(), places, most)
+                    self.assertEqual(model.end_of(commands, some, goal, FACTS), ("shown",))
+                    self.assertTrue(verdict.claim.run_on(Context(some)))
 
     def check_breach(self, verdict, commands, goal):
         self.assertTrue(verdict.wider.is_wider(verdict.claim.context))
